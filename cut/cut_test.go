@@ -121,6 +121,10 @@ func TestP19_4AlikeAndDiffer(t *testing.T) {
 	if !slices.Equal(Differ(a, b), want) || !slices.Equal(Differ(b, a), want) || len(Differ(a, a)) != 0 {
 		t.Error(Differ(a, b))
 	}
+	empty := New(3, []stripe.Entry{entry(1, with().Freeze())})
+	if !slices.Equal(Differ(nil, empty), empty.Keys()) || !slices.Equal(Differ(empty, nil), empty.Keys()) {
+		t.Error("a workload that has nothing is there all the same")
+	}
 	if !slices.Equal(Differ(nil, a), a.Keys()) || len(Differ(nil, nil)) != 0 {
 		t.Error(Differ(nil, a))
 	}

@@ -57,6 +57,8 @@ func TestP16_2Of(t *testing.T) {
 		"least":                  {usual, samples(9, 0), had(5), api.Advice{Tick: 9, Load: 0, Want: 1, Replicas: 1, Why: api.Least}},
 		"least stays least":      {five, samples(9, 100), had(5), api.Advice{Tick: 9, Load: 100, Want: 5, Replicas: 5, Why: api.Least}},
 		"most":                   {usual, samples(9, 1001), had(5), api.Advice{Tick: 9, Load: 1001, Want: 10, Replicas: 10, Why: api.Most}},
+		"just the most":          {usual, samples(9, 1000), had(5), api.Advice{Tick: 9, Load: 1000, Want: 10, Replicas: 10, Why: api.Up}},
+		"just the least":         {usual, samples(9, 100), had(5), api.Advice{Tick: 9, Load: 100, Want: 1, Replicas: 1, Why: api.Down}},
 		"near, above the most":   {usual, samples(9, 1200), had(12), api.Advice{Tick: 9, Load: 1200, Want: 10, Replicas: 10, Why: api.Most}},
 		"near, below the least":  {five, samples(9, 310), had(3), api.Advice{Tick: 9, Load: 310, Want: 5, Replicas: 5, Why: api.Least}},
 		"held":                   {usual, samples(2, 100), []api.Advice{{Tick: 1, Want: 3, Replicas: 3}}, api.Advice{Tick: 2, Load: 100, Want: 1, Replicas: 3, Why: api.Held}},

@@ -61,7 +61,7 @@ func TestP37_2Wrong(t *testing.T) {
 		more []trace.Event
 		want int
 	}{
-		{nil, -1}, {[]trace.Event{noted(0, "a", advice)}, -1}, {[]trace.Event{noted(0, "a", other)}, 3}, {[]trace.Event{noted(1, "a", advice)}, 3},
+		{nil, -1}, {[]trace.Event{noted(0, "a", advice)}, -1}, {[]trace.Event{noted(0, "a", other)}, 3}, {[]trace.Event{noted(1, "a", advice)}, 3}, {[]trace.Event{noted(1, "a", api.Advice{})}, 3},
 		{[]trace.Event{point(ingest("a", 2, 9000)), noted(0, "a", advice)}, -1}, {[]trace.Event{point(ingest("a", 2, 9000)), work(trace.Saw, 0, "a"), noted(0, "a", advice)}, 5},
 		{[]trace.Event{noted(0, "a", advice), noted(0, "a", advice), noted(0, "a", other)}, 5}, {[]trace.Event{work(trace.Saw, 1, "b"), noted(1, "b", api.Advice{})}, 4}, {[]trace.Event{work(trace.Saw, 1, ""), noted(1, "", api.Advice{})}, 4},
 		{[]trace.Event{work(trace.Saw, 0, "b"), noted(0, "a", advice)}, 4}, {[]trace.Event{work(trace.Took, 3, "a"), work(trace.Gave, 3, "a")}, -1},
@@ -107,6 +107,12 @@ func TestP37_3StaleAndLast(t *testing.T) {
 	}
 	m := []trace.Event{noted(0, "a", advice), noted(1, "b", api.Advice{Tick: 2}), noted(2, "a", api.Advice{Tick: 3}), work(trace.Gave, 0, "a")}
 	if a, ok := Last(m, ground.Key("a")); a != (api.Advice{Tick: 3}) || !ok {
+		t.Error(a, ok)
+	}
+	if a, ok := Last(m[:3], ground.Key("a")); a != (api.Advice{Tick: 3}) || !ok {
+		t.Error(a, ok)
+	}
+	if a, ok := Last(m[:2], ground.Key("a")); a != advice || !ok {
 		t.Error(a, ok)
 	}
 	if a, ok := Last(m, ground.Key("c")); a != (api.Advice{}) || ok {

@@ -42,6 +42,7 @@ func TestP49_2Store(t *testing.T) {
 		{"store", "error 10"}, {"store ", "error 10"}, {"store 1 4 4", "error 10"}, {"store 1 4 4 4 4", "error 10"}, {"store 1 4 4 04", "error 10"}, {"store  1 4 4 4", "error 10"}, {"store 1 4 4 4 ", "error 10"}, {"store 3 4 4 4", "error 1"}, {"store 1 0 4 4", "error 1"},
 		{"ids", "error 5"}, {"store 1 4 4 4", "ok"}, {"ids", "ok"}, {"ingest b 1 1", "ok"}, {"ingest a 1 1", "ok"}, {"ids", "ok a b"}, {"store 3 4 4 4", "error 1"}, {"store x", "error 10"}, {"ids", "ok a b"}, {"changes", "ok; + a; + b"},
 		{"store 2 4 4 4", "ok"}, {"ids", "ok"}, {"changes", "ok"}, {"stores", "error 14"},
+		{"store 1 3 1 2", "ok"}, {"ingest a 1 1", "ok"}, {"ingest b 1 1", "error 6"}, {"ingest a 2 1", "ok"}, {"ingest a 3 1", "ok"}, {"ingest a 4 1", "ok"}, {"load a", "ok samples 3 past 0 policy no"},
 	}.with(t, d)
 }
 

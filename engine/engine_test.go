@@ -120,6 +120,21 @@ func TestP34_4Run(t *testing.T) {
 	}
 }
 
+func TestP34_1WorkersNumbersStandBehind(t *testing.T) {
+	e, _ := New(two, [][]api.Call{{ingest("a", 1, 5), ingest("b", 1, 5), ingest("c", 1, 5)}}, 3)
+	e.Run(make([]int, 24))
+	var tasks []int
+	for _, pick := range []int{1, 1, 1, 2, 2, 2, 3, 3, 3} {
+		e.Step(pick)
+	}
+	for _, event := range trace.Kind(e.World().Events(), trace.Took) {
+		tasks = append(tasks, event.Task)
+	}
+	if !slices.Equal(tasks, []int{1, 2, 3}) {
+		t.Error(tasks)
+	}
+}
+
 func TestP34_4ClientsAndWorkers(t *testing.T) {
 	o, _ := Run(two, [][]api.Call{{set("a"), ingest("a", 1, 250), ingest("a", 2, 100)}}, 1, make([]int, 300))
 	l := trace.Kind(o.Events, trace.Noted)

@@ -65,6 +65,15 @@ func TestP23_2AllAndList(t *testing.T) {
 	if !slices.Equal(seen, []int{4, 5, 5}) || !slices.Equal(q.List(), []int{6, 9, 9, 9}) {
 		t.Error(seen, q.List())
 	}
+	p := filled(1, 2, 3)
+	seen = nil
+	for x := range p.All() {
+		seen = append(seen, x)
+		p.Drop(2)
+	}
+	if !slices.Equal(seen, []int{1, 2, 3}) {
+		t.Error("what is dropped meanwhile:", seen)
+	}
 	q.List()[0] = 77
 	if x, _ := q.First(); x != 6 {
 		t.Error("a list shares memory")

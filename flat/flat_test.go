@@ -77,6 +77,10 @@ func TestP22_1Twin(t *testing.T) {
 	m.Do(ingest("a", 1, 1))
 	m.Do(api.Call{Kind: api.Snap})
 	w := m.Twin()
+	one := New(api.Config{Stripes: 1, Samples: 1, Loads: 1, History: 1})
+	if one.Twin().Do(ingest("a", 1, 1)) != (api.Reply{}) || one.Do(ingest("b", 1, 1)) != (api.Reply{}) {
+		t.Error("a map and its twin share their room")
+	}
 	w.Do(ingest("a", 2, 2))
 	w.Do(api.Call{Kind: api.Free, Handle: 1})
 	w.Note("a", api.Advice{Tick: 1})

@@ -100,7 +100,7 @@ func TestP14_3Highest(t *testing.T) {
 
 func TestP14_3ChangesAndReasons(t *testing.T) {
 	var l []api.Advice
-	for i, n := range []int64{1, 1, 2, 2, 1, 3} {
+	for i, n := range []int64{7, 1, 1, 2, 2, 3} {
 		l = append(l, api.Advice{Replicas: n, Want: int64(i), Why: i})
 	}
 	if Changes(l) != 3 || Changes(nil) != 0 || Changes(l[:1]) != 0 {

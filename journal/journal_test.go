@@ -22,7 +22,7 @@ const most, least = math.MaxInt64, math.MinInt64
 func calls() []api.Call {
 	return []api.Call{
 		{Kind: api.Ingest, Id: "a", Tick: 1, Value: -5}, {Kind: api.Trim, Tick: least}, {Kind: api.Snap}, {Kind: api.Free, Handle: 3}, {Kind: api.Look, Id: "web-1", Handle: -1, Tick: 9, Value: most},
-		{Kind: api.Set, Id: strings.Repeat("z", 20), Policy: api.Policy{Min: least, Max: least, Target: least, Tolerance: least, Window: least, Hold: least}}, {Kind: api.Set, Id: "a", Policy: policy.Usual()}, {Kind: api.Read, Id: "b"}, {Kind: api.Shut},
+		{Kind: api.Set, Id: strings.Repeat("z", 20), Policy: api.Policy{Min: least, Max: least, Target: least, Tolerance: least, Window: least, Hold: least}}, {Kind: api.Set, Id: "a", Policy: api.Policy{Min: 1, Max: 2, Target: 3, Tolerance: 4, Window: 5, Hold: 6}}, {Kind: api.Read, Id: "b"}, {Kind: api.Shut},
 	}
 }
 
@@ -38,7 +38,7 @@ func TestP50_1Put(t *testing.T) {
 	if b, err := Put(api.Call{Kind: api.Shut}); !bytes.Equal(b, sealed(0, 16)) || err != api.OK || !bytes.Equal(b[:3], []byte{2, 0, 16}) {
 		t.Error(b, err)
 	}
-	bodies := [][]int64{{1, 1, -5}, {2, least}, {3}, {4, 3}, {5, -1, 9, most}, {6, least, least, least, least, least, least}, {6, 1, 10, 100, 100, 5, 3}, {7}, {8}}
+	bodies := [][]int64{{1, 1, -5}, {2, least}, {3}, {4, 3}, {5, -1, 9, most}, {6, least, least, least, least, least, least}, {6, 1, 2, 3, 4, 5, 6}, {7}, {8}}
 	for i, c := range calls() {
 		want := sealed(slices.Concat([]byte{byte(len(c.Id))}, []byte(c.Id), zig.Put(bodies[i]...))...)
 		if b, err := Put(c); !bytes.Equal(b, want) || err != api.OK {

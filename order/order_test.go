@@ -106,6 +106,10 @@ func TestP35_3EpochsAndAfter(t *testing.T) {
 			t.Errorf("after %d", n)
 		}
 	}
+	first := []trace.Event{point(ingest("a"), api.Reply{}), point(ingest("b"), api.Reply{})}
+	if len(After(two, first, 0).Ids()) != 0 || len(After(two, first, -9).Ids()) != 0 || len(After(two, first, 1).Ids()) != 1 {
+		t.Error("none, if n is below 1")
+	}
 	if After(api.Config{}, l, 3) != nil {
 		t.Error("no map of that config")
 	}

@@ -83,7 +83,7 @@ func TestP1_3Narrow(t *testing.T) {
 	}{
 		{200, 8, -56, false}, {-128, 8, -128, true}, {127, 8, 127, true}, {128, 8, -128, false},
 		{1, 1, -1, false}, {-1, 1, -1, true}, {0, 1, 0, true}, {5, 64, 5, true}, {math.MinInt64, 64, math.MinInt64, true},
-		{math.MinInt64, 63, 0, false}, {5, 0, 0, false}, {0, 0, 0, false}, {5, 65, 0, false}, {5, -1, 0, false}, {0, math.MinInt64, 0, false},
+		{math.MinInt64, 63, 0, false}, {5, 0, 0, false}, {0, 0, 0, false}, {5, 65, 0, false}, {0, 65, 0, false}, {5, -1, 0, false}, {0, math.MinInt64, 0, false},
 	}
 	for _, c := range cases {
 		if got, same := Narrow(c.n, c.bits); got != c.want || same != c.same {

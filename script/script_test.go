@@ -19,6 +19,7 @@ func read(id string) api.Call {
 func scripts() map[string]Script {
 	return map[string]Script{
 		"store 1 4 4 4\nclient\nread a\nworkers 0\n":  {Config: small, Programs: [][]api.Call{{read("a")}}},
+		"store 2 3 5 7\nworkers 1\n":                  {Config: api.Config{Stripes: 2, Samples: 3, Loads: 5, History: 7}, Workers: 1},
 		"store 1 4 4 4\nworkers 3\n":                  {Config: small, Workers: 3},
 		"store 1 4 4 4\nclient\nworkers 1\npicks 0\n": {Config: small, Programs: [][]api.Call{nil}, Workers: 1, Picks: []int{0}},
 		"store 1 4 4 4\nclient\nclient\nsnap\ntrim -1\nclient\nset b min 1 max 10 target 100 tolerance 100 window 5 hold 3\nworkers 0\npicks 5 -9223372036854775808 7\n": {Config: small, Programs: [][]api.Call{nil, {{Kind: api.Snap}, {Kind: api.Trim, Tick: -1}}, {{Kind: api.Set, Id: "b", Policy: policy.Usual()}}}, Picks: []int{5, math.MinInt64, 7}},

@@ -103,6 +103,9 @@ func TestP8_3CloneAndList(t *testing.T) {
 	s := Of(2, samples(1, 1, 2, 2))
 	c := s.Clone()
 	s.List()[0].Value = 77
+	if !slices.Equal(s.List(), samples(1, 1, 2, 2)) {
+		t.Error("a list shares memory")
+	}
 	c.Put(2, 9)
 	s.Put(1, 5)
 	c.Put(3, 3)

@@ -196,6 +196,7 @@ func TestP21_4DoSetReadAndRoom(t *testing.T) {
 	s.expect(t, set("c", policy.Usual()), api.Reply{Err: api.ErrFull})
 	s.expect(t, read("c"), api.Reply{Err: api.ErrNone})
 	s.Stripe(0).Note(key("b"), api.Advice{Tick: 1})
+	s.expect(t, read("b"), api.Reply{Advice: api.Advice{Tick: 1}})
 	s.Stripe(0).Note(key("b"), api.Advice{Tick: 2, Replicas: 7})
 	s.expect(t, read("b"), api.Reply{Advice: api.Advice{Tick: 2, Replicas: 7}})
 	if s.Last(key("b")) != s.Do(read("b")) {

@@ -115,12 +115,22 @@ func TestP18_5AndP18_6Freeze(t *testing.T) {
 		t.Fatal(l)
 	}
 	s.Ingest(key(2), 6, 60)
+	if len(s.Get(key(2)).Samples()) != 2 {
+		t.Error("the sample is lost")
+	}
 	s.Note(key(1), api.Advice{Tick: 1})
+	s.Freeze()
+	other := policy.Usual()
+	other.Max = 99
+	s.Set(key(1), other)
+	if p, _ := s.Get(key(1)).Policy(); p != other {
+		t.Error("the policy is lost")
+	}
 	s.Trim(99)
 	if !slices.Equal(l[1].Node.Samples(), []api.Sample{{Tick: 5, Value: 50}}) || len(l[0].Node.Past()) != 0 || s.Get(key(2)) == l[1].Node || s.Get(key(2)).Frozen() {
 		t.Error("what was frozen changed")
 	}
-	if len(s.Get(key(1)).Past()) != 1 || len(s.Get(key(2)).Samples()) != 0 || s.Version() != 5 {
+	if len(s.Get(key(1)).Past()) != 1 || len(s.Get(key(2)).Samples()) != 0 || s.Version() != 6 {
 		t.Error("what answers is the key's node from then on", s.Version())
 	}
 }

@@ -42,7 +42,7 @@ func TestP40_1Check(t *testing.T) {
 		want     api.Errno
 	}{
 		{two, nil, api.OK}, {two, [][]api.Call{{a}, {b}}, api.OK}, {two, make([][]api.Call, 16), api.OK}, {two, [][]api.Call{long[:256]}, api.OK}, {two, [][]api.Call{{a, a, set("a"), read("a")}}, api.OK},
-		{api.Config{}, make([][]api.Call, 17), api.ErrArg}, {two, make([][]api.Call, 17), api.ErrArg}, {two, [][]api.Call{long}, api.ErrLimit}, {two, [][]api.Call{{{Kind: 9}}, long}, api.ErrKind}, {two, [][]api.Call{long, {{Kind: 9}}}, api.ErrLimit},
+		{api.Config{}, make([][]api.Call, 17), api.ErrArg}, {api.Config{}, nil, api.ErrArg}, {api.Config{Stripes: 3, Samples: 1, Loads: 1, History: 1}, [][]api.Call{long}, api.ErrArg}, {two, make([][]api.Call, 17), api.ErrArg}, {two, [][]api.Call{long}, api.ErrLimit}, {two, [][]api.Call{{{Kind: 9}}, long}, api.ErrKind}, {two, [][]api.Call{long, {{Kind: 9}}}, api.ErrLimit},
 		{two, [][]api.Call{slices.Repeat([]api.Call{{Kind: 9}}, 257)}, api.ErrLimit}, {two, [][]api.Call{{{Kind: api.Snap}}}, api.ErrKind}, {two, [][]api.Call{{{Kind: api.Shut}}}, api.ErrKind}, {two, [][]api.Call{{{}}}, api.ErrKind}, {two, [][]api.Call{{{Kind: api.Look, Id: "a"}}}, api.ErrKind}, {two, [][]api.Call{{{Kind: api.Trim}}}, api.ErrKind},
 		{two, [][]api.Call{{a}, {a}}, api.ErrOrder}, {two, [][]api.Call{{a}, {read("a")}}, api.ErrOrder}, {two, [][]api.Call{{a}, {b}, {{Kind: api.Free}}}, api.ErrKind}, {two, [][]api.Call{{a}, {a}, {{Kind: api.Free}}}, api.ErrKind},
 		{two, [][]api.Call{{ingest("A", 1, 1)}, {ingest("A", 1, 1)}, {ingest("", 1, 1)}}, api.OK},

@@ -63,6 +63,10 @@ func TestP30_1NotRight(t *testing.T) {
 	countedFirst := work(Took, 0, a)
 	countedFirst.Nth = 1
 	took, saw := work(Took, 0, a), work(Saw, 0, a)
+	keyedNext := call(Called, 0, 1)
+	keyedNext.Key = a
+	countedNoted, countedGave := work(Noted, 0, a), work(Gave, 0, a)
+	countedNoted.Nth, countedGave.Nth = 1, 1
 	for i, l := range [][]Event{
 		{call(Returned, 0, 0)}, {call(Point, 0, 0)}, {saw}, {work(Noted, 0, a)}, {work(Gave, 0, a)}, {{}}, {{Kind: 8}}, {call(Called, -1, 0)}, {call(Called, 32, 0)}, {call(Called, math.MaxInt64, 0)},
 		{call(Called, 0, 1)}, {call(Called, 0, -1)}, {keyedFirst}, {countedFirst},
@@ -70,6 +74,7 @@ func TestP30_1NotRight(t *testing.T) {
 		{call(Called, 0, 0), call(Point, 0, 0), call(Point, 0, 0)}, {call(Called, 0, 0), call(Point, 0, 0), call(Returned, 0, 1)}, {call(Called, 0, 0), call(Point, 0, 0), keyedLast},
 		append(client(0, 1), call(Called, 0, 0)), append(client(0, 1), call(Called, 0, 2)), append(client(0, 1), took), append(client(0, 1), call(Point, 0, 1)),
 		{took, work(Noted, 0, a)}, {took, work(Gave, 0, a)}, {took, work(Saw, 0, b)}, {took, counted}, {took, took}, {took, call(Called, 0, 0)}, {took, {Kind: 8, Key: a}},
+		append(client(0, 1), keyedNext), {took, saw, countedNoted}, {took, saw, countedGave}, {took, saw, work(Noted, 0, a), countedGave}, {took, saw, work(Gave, 0, a), countedFirst},
 		{took, saw, saw}, {took, saw, work(Noted, 0, b)}, {took, saw, work(Gave, 0, b)}, {took, saw, took}, {took, saw, work(Noted, 0, a), work(Noted, 0, a)}, {took, saw, work(Noted, 0, a), work(Gave, 0, b)},
 		{took, saw, work(Gave, 0, a), saw}, {took, saw, work(Gave, 0, a), call(Called, 0, 0)}, {took, work(Saw, 1, a)},
 	} {

@@ -105,7 +105,7 @@ func TestP45_3Cheapest(t *testing.T) {
 		want int64
 	}{
 		{nil, 1000, loads(100, 250, 700), 4, 7}, {nil, 7, loads(100, 250, 700), 4, 7}, {nil, 6, loads(100, 250, 700), 4, 0}, {nil, 1001, loads(100), 4, 0}, {nil, 0, loads(0), 4, 0}, {nil, -5, loads(0), 4, 0}, {nil, 1000, loads(100001), 4, 0}, {nil, 1000, loads(100000), 4, 1000},
-		{func(p *api.Policy) { p.Min = 3 }, 10, loads(100), 4, 3}, {func(p *api.Policy) { p.Min = 0 }, 10, loads(0), 4, 1}, {func(p *api.Policy) { p.Min = 9 }, 8, loads(0), 4, 0}, {func(p *api.Policy) { p.Target = 0 }, 10, loads(0), 4, 0}, {nil, 10, nil, 4, 1}, {nil, 10, loads(0), 0, 0},
+		{func(p *api.Policy) { p.Min = 3 }, 10, loads(100), 4, 3}, {func(p *api.Policy) { p.Min = 0 }, 10, loads(0), 4, 1}, {func(p *api.Policy) { p.Min = 9 }, 8, loads(0), 4, 0}, {func(p *api.Policy) { p.Target = 0 }, 10, loads(0), 4, 0}, {nil, 1, nil, 4, 1}, {func(p *api.Policy) { p.Max = 0 }, 10, loads(100), 4, 0}, {func(p *api.Policy) { p.Max = 1<<30 + 1 }, 10, loads(100), 4, 0}, {nil, 10, nil, 4, 1}, {nil, 10, loads(0), 0, 0},
 	} {
 		q := p
 		if c.turn != nil {

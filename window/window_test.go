@@ -104,6 +104,9 @@ func TestP9_3Each(t *testing.T) {
 	if got := Each(l, 3, 0, 2); !slices.Equal(got, []api.Stat{{}, {}}) {
 		t.Error(got)
 	}
+	if got := Each(samples(most, 7), most, 0, 2); got[0].Count != 1 || got[1] != got[0] {
+		t.Error("a width of 0 moves nothing:", got)
+	}
 	for _, x := range Each(samples(4, 1, 5, 2), 3, -2, 3) {
 		if x != At(samples(4, 1, 5, 2), 3, -2) {
 			t.Error("a width below 0 moves nothing")

@@ -66,6 +66,9 @@ func TestP24_1AddGetDone(t *testing.T) {
 
 func TestP24_3ShutAndOver(t *testing.T) {
 	var q Queue
+	if q.Over() {
+		t.Error("a queue that isn't shut is never over")
+	}
 	q.Add(a)
 	q.Add(b)
 	q.Get()
