@@ -45,10 +45,7 @@ func Mul(a, b int64) int64 {
 
 // exact asks by dividing back; neither factor is 0. The least number times -1 wraps onto itself and would divide back, so it is told apart.
 func exact(a, b int64) bool {
-	if a == least && b == -1 || a == -1 && b == least {
-		return false
-	}
-	return a*b/b == a
+	return a*b/b == a && !(a == least && b == -1)
 }
 
 // Sum is the sum of all, stopped at an end behind each step (P1.1).
