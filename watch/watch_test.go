@@ -67,6 +67,57 @@ func TestP38_1Alone(t *testing.T) {
 	}
 }
 
+// What no world lets be is told of what it would be made of.
+func TestP38_1WhatNoWorldLetsBe(t *testing.T) {
+	for i, c := range []struct {
+		holds []int
+		waits int
+		want  bool
+	}{{nil, -1, true}, {nil, 0, true}, {[]int{0, 5}, -1, true}, {[]int{0, 5}, 6, true}, {[]int{0, 5}, 5, false}, {[]int{0, 5}, 3, false}, {[]int{5}, 0, false}} {
+		if below(c.holds, c.waits) != c.want {
+			t.Error(i)
+		}
+	}
+	for i, c := range []struct {
+		how  []int
+		want bool
+	}{{nil, true}, {[]int{1, 1, 0, 1}, true}, {[]int{0, 2}, true}, {[]int{2, 1}, false}, {[]int{1, 0, 2}, false}, {[]int{2, 2}, false}} {
+		var first, last [api.MaxTasks]int
+		copy(first[:], c.how)
+		copy(last[api.MaxTasks-len(c.how):], c.how)
+		if alone(first) != c.want || alone(last) != c.want {
+			t.Error(i)
+		}
+	}
+}
+
+func TestP38_2WhatNoQueueLetsBe(t *testing.T) {
+	a, b := ground.Key("a"), ground.Key("b")
+	some := func(l ...api.Key) []api.Key { return l }
+	for i, c := range []struct {
+		line, busy, dirty, keys []api.Key
+		want                    bool
+	}{
+		{nil, nil, nil, nil, true}, {some(b, a), nil, some(a, b), nil, true}, {some(a), some(b), some(a, b), some(b), true}, {nil, some(a, b), nil, some(b, a), true},
+		{some(a, a), nil, some(a), nil, false}, {nil, some(a), nil, some(a, a), false}, {some(a), some(a), some(a), some(a), false}, {some(a), nil, nil, nil, false}, {nil, nil, some(a), nil, false}, {nil, some(b), some(a), some(b), false}, {nil, some(a), nil, nil, false}, {nil, nil, nil, some(a), false}, {nil, some(a), nil, some(b), false},
+	} {
+		if sound(c.line, c.busy, c.dirty, c.keys) != c.want {
+			t.Error(i)
+		}
+	}
+}
+
+func TestP38_3WhatNoStoreLetsBe(t *testing.T) {
+	for i, c := range []struct {
+		l    []api.Sample
+		want bool
+	}{{nil, true}, {[]api.Sample{{Tick: 0}, {Tick: 5, Value: 3}, {Tick: 6}}, true}, {[]api.Sample{{Tick: 5}, {Tick: 5}}, false}, {[]api.Sample{{Tick: 6}, {Tick: 5}}, false}, {[]api.Sample{{Tick: -1}}, false}, {[]api.Sample{{Tick: 1}, {Tick: 2, Value: -1}}, false}} {
+		if rises(c.l) != c.want {
+			t.Error(i)
+		}
+	}
+}
+
 func TestP38_2Queue(t *testing.T) {
 	a, b := ground.Key("a"), ground.Key("b")
 	w := made(t)
